@@ -1,0 +1,1 @@
+"""Marked text written as short as can be, at once or in pieces."""
