@@ -2,8 +2,10 @@
 
 from shortmark.cursor import Cursor
 from shortmark.session import Session
+from shortmark.shortest import cheapest_form
 from shortmark.signs import is_byte
-from shortmark.whole import minified_answer, read_answer, saved_answer
+from shortmark.telling import counted
+from shortmark.whole import laid_answer, minified_answer, read_answer, same_answer, saved_answer, tokens_answer
 
 MOST_BYTES = 8192
 
@@ -11,6 +13,7 @@ NO_BYTES = -1
 TOO_MANY_BYTES = -2
 TOO_MUCH_FED = -3
 TEXT_IS_OVER = -4
+WRONG_SETTING = -5
 
 
 def begin_call(session, cursor):
@@ -37,21 +40,46 @@ def end_call(session, cursor):
 def minify_call(session, cursor):
     row = cursor.take_row()
     refused = bytes_refusal(row)
-    if refused:
-        return [refused]
-    return minified_answer(row)
+    return [refused] if refused else minified_answer(row)
 
 
 def saved_call(session, cursor):
     row = cursor.take_row()
     refused = bytes_refusal(row)
-    if refused:
-        return [refused]
-    return saved_answer(row)
+    return [refused] if refused else saved_answer(row)
+
+
+def laid_call(session, cursor):
+    width = cursor.take_number()
+    row = cursor.take_row()
+    refused = width_refusal(width) or bytes_refusal(row)
+    return [refused] if refused else laid_answer(width, row)
+
+
+def same_call(session, cursor):
+    first = cursor.take_row()
+    second = cursor.take_row()
+    refused = bytes_refusal(first) or bytes_refusal(second)
+    return [refused] if refused else same_answer(first, second)
+
+
+def value_call(session, cursor):
+    tight = cursor.take_number()
+    row = cursor.take_row()
+    refused = tight_refusal(tight) or bytes_refusal(row)
+    return [refused] if refused else counted(cheapest_form(row, tight))
+
+
+def tokens_call(session, cursor):
+    row = cursor.take_row()
+    refused = bytes_refusal(row)
+    return [refused] if refused else tokens_answer(row)
 
 
 # A call's number is its place here.
-CALLS = (begin_call, feed_call, end_call, minify_call, saved_call)
+CALLS = (
+    begin_call, feed_call, end_call, minify_call, saved_call, laid_call, same_call, value_call, tokens_call,
+)
 
 
 def bytes_refusal(row):
@@ -70,6 +98,14 @@ def feed_refusal(session, row):
     if not session.has_room_for(row):
         return TOO_MUCH_FED
     return 0
+
+
+def width_refusal(width):
+    return WRONG_SETTING if width < 0 else 0
+
+
+def tight_refusal(tight):
+    return 0 if tight in (0, 1) else WRONG_SETTING
 
 
 def answers(calls):

@@ -53,10 +53,11 @@ def short_open_tag(token):
     for index, pair in enumerate(token.attributes):
         written.append(SPACE)
         written.extend(short_attribute(pair[0], pair[1], token.ended == 1 and index == last))
-    if token.ended == 1:
-        written.append(SLASH)
-    written.append(GREATER)
-    return written
+    return written + tag_end(token)
+
+
+def tag_end(token):
+    return [SLASH, GREATER] if token.ended == 1 else [GREATER]
 
 
 def short_attribute(name, value, tight):

@@ -1,5 +1,6 @@
 """The signs that reading and writing ask for, by name and by sort."""
 
+LINE_FEED = 10
 SPACE = 32
 EXCLAMATION = 33
 DOUBLE_QUOTE = 34

@@ -8,9 +8,14 @@ def signs(text):
     return list(text) if isinstance(text, list) else [ord(letter) for letter in text]
 
 
-def with_row(number, text):
+def counted(text):
+    """A text's numbers with how many there are before them."""
     row = signs(text)
-    return [number, len(row)] + row
+    return [len(row)] + row
+
+
+def with_row(number, text):
+    return [number] + counted(text)
 
 
 def begin():
@@ -31,6 +36,22 @@ def minify(text):
 
 def saved(text):
     return with_row(4, text)
+
+
+def laid(width, text):
+    return [5, width] + counted(text)
+
+
+def same(first, second):
+    return [6] + counted(first) + counted(second)
+
+
+def value(tight, text):
+    return [7, tight] + counted(text)
+
+
+def tokens(text):
+    return with_row(8, text)
 
 
 def split(numbers):
@@ -54,8 +75,7 @@ def ask(*calls):
 
 def wrote(text):
     """The answer of bytes that are written."""
-    row = signs(text)
-    return [0, len(row)] + row
+    return [0] + counted(text)
 
 
 def fault(kind, place):

@@ -1,4 +1,4 @@
-"""A second way to minify, by patterns; it knows fine texts alone."""
+"""A second way to take texts apart and write them, by patterns; it knows fine texts alone."""
 
 import html
 import re
@@ -10,7 +10,7 @@ VALUE = f"\"(?:[^&\"]|{REFERENCE})*\"|'(?:[^&']|{REFERENCE})*'|(?:[^\t\n\r \"&'<
 ATTRIBUTE = f"{BLANK}+({NAME})(?:=({VALUE}))?(?={BLANK}|\\Z)"
 ATTRIBUTES = f"((?:{BLANK}+{NAME}(?:=(?:{VALUE}))?(?={BLANK}|/?>))*)"
 TOKEN = re.compile(
-    f"(?P<comment><!--.*?-->)"
+    f"<!--(?P<comment>.*?)-->"
     f"|<(?P<name>{NAME}){ATTRIBUTES}{BLANK}*(?P<slash>/?)>"
     f"|</(?P<close>{NAME})>"
     f"|(?P<text>(?:[^<&]|{REFERENCE})+)", re.DOTALL)
@@ -51,8 +51,20 @@ def short_tag(name, attributes, ended):
     return written + ("/>" if ended else ">")
 
 
+def full_tag(name, attributes, ended, gap):
+    written = "<" + name
+    for key, value in attributes:
+        written += gap + key + '="' + value.replace("&", "&amp;").replace('"', "&quot;") + '"'
+    return written + ("/>" if ended else ">")
+
+
+def laid_tag(name, attributes, ended, width):
+    written = full_tag(name, attributes, ended, " ")
+    return full_tag(name, attributes, ended, "\n") if len(written) > width else written
+
+
 def tokens_of(text):
-    """Pairs of a tag's name, attributes and end, or of what is written as it is; None if a token is not met."""
+    """Each token's kind and what it holds; None if a token is not met."""
     found = []
     place = 0
     while place < len(text):
@@ -60,25 +72,44 @@ def tokens_of(text):
         if match is None:
             return None
         place = match.end()
-        if match["comment"]:
-            found.append(("as it is", match.group()))
+        if match["comment"] is not None:
+            found.append((3, match["comment"]))
         elif match["text"]:
-            found.append(("as it is", content(match["text"]).replace("&", "&amp;").replace("<", "&lt;")))
+            found.append((0, content(match["text"])))
         elif match["close"]:
-            found.append(("close", match["close"]))
+            found.append((2, match["close"]))
         else:
             pairs = [(key, value_of(value or "")) for key, value in re.findall(ATTRIBUTE, match.group(3))]
             if len(dict(pairs)) < len(pairs):
                 return None
-            found.append(("open", match["name"], pairs, match["slash"] == "/"))
+            found.append((1, match["name"], pairs, match["slash"] == "/"))
             if match["name"] in ("calc", "verb") and not match["slash"]:
                 raw = RAW.match(text, place)
                 if raw is None or not text.startswith(match["name"] + ">", raw.end()):
                     return None
                 if raw[1]:
-                    found.append(("as it is", raw[1]))
+                    found.append((4, raw[1]))
                 place = raw.end() - 2
     return found
+
+
+def joined(found):
+    """The normal tokens."""
+    normal = []
+    for token in found:
+        before = normal[-1] if normal else (None,)
+        if token[0] == 2 and before[0] == 1 and before[1] == token[1] and not before[3]:
+            normal[-1] = before[:3] + (True,)
+        else:
+            normal.append(token)
+    return normal
+
+
+def written(token, write_tag):
+    kind, inner = token[:2]
+    if kind == 1:
+        return write_tag(*token[1:])
+    return {0: inner.replace("&", "&amp;").replace("<", "&lt;"), 2: f"</{inner}>", 3: f"<!--{inner}-->", 4: inner}[kind]
 
 
 def plainly_minified(text):
@@ -86,16 +117,18 @@ def plainly_minified(text):
     found = tokens_of(text)
     if found is None:
         return None
-    written = ""
-    skipped = False
-    for token, behind in zip(found, found[1:] + [None]):
-        if skipped:
-            skipped = False
-        elif token[0] == "as it is":
-            written += token[1]
-        elif token[0] == "close":
-            written += f"</{token[1]}>"
-        else:
-            skipped = behind == ("close", token[1]) and not token[3]
-            written += short_tag(token[1], token[2], token[3] or skipped)
-    return written
+    return "".join(written(token, short_tag) for token in joined(found))
+
+
+def plainly_laid(text, width):
+    """The text laid out, or None if it is not fine."""
+    found = tokens_of(text)
+    if found is None:
+        return None
+    return "".join(written(token, lambda *tag: laid_tag(*tag, width)) for token in found)
+
+
+def normal_tokens_of(text):
+    """The normal tokens, or None if the text is not fine."""
+    found = tokens_of(text)
+    return None if found is None else joined(found)

@@ -3,7 +3,9 @@
 import unittest
 
 from shortmark.desk import answers
-from tests.helpers import ask, end, fault, feed, minified, minify, saved, signs, wrote
+from tests.helpers import (
+    ask, counted, end, fault, feed, laid, minified, minify, same, saved, signs, tokens, value, wrote,
+)
 
 
 class Examples(unittest.TestCase):
@@ -25,14 +27,21 @@ class Examples(unittest.TestCase):
 
     def test_no_texts(self):
         for text, place in (("<a b = ...", 5), ("x &#38; <b>y</b >", 15)):
-            for call in (minify, saved, feed):
+            for call in (minify, saved, feed, tokens):
                 self.assertEqual(ask(call(text)), [fault(1, place)], text)
+            self.assertEqual(ask(laid(9, text), same(text, ""), same("", text)),
+                             [fault(1, place), [1, 0, 1, place], [1, 1, 1, place]], text)
+
+    def test_value(self):
+        self.assertEqual(ask(value(1, 'a"')), [counted("'a\"'")])
+        self.assertEqual(ask(value(0, ""), value(1, "")), [counted('""')] * 2)
 
     def test_ended_tags_are_one_with_closed_ones(self):
         for text in ("<b></b>", "<b/>"):
             self.assertEqual(minified(text), "<b/>")
         for text in ("<calc></calc>", "<calc/>"):
             self.assertEqual(minified(text), "<calc/>")
+        self.assertEqual(ask(same("<b></b>", "<b/>"), same("<calc></calc>", "<calc/>")), [[0, 1], [0, 1]])
 
     def test_zeros_before(self):
         self.assertEqual(ask(minify("&#007;")), [[0, 1, 7]])

@@ -1,8 +1,8 @@
-"""Each kind of fault with its place, in minify, saved, feed and end."""
+"""Each kind of fault with its place, in every call that reads a text."""
 
 import unittest
 
-from tests.helpers import ask, end, fault, feed, minify, saved, wrote
+from tests.helpers import ask, end, fault, feed, laid, minify, same, saved, tokens, wrote
 
 LONG = "a" * 32
 
@@ -31,9 +31,15 @@ FAULTS = [
 
 class Faults(unittest.TestCase):
 
-    def test_minify_and_saved(self):
+    def test_whole_texts(self):
         for text, kind, place in FAULTS:
-            self.assertEqual(ask(minify(text), saved(text)), [fault(kind, place)] * 2, text)
+            self.assertEqual(ask(minify(text), saved(text), laid(0, text), laid(80, text), tokens(text)),
+                             [fault(kind, place)] * 5, text)
+
+    def test_which_of_two_texts(self):
+        for text, kind, place in FAULTS:
+            self.assertEqual(ask(same(text, "<a>"), same("<a>", text), same(text, text)),
+                             [[1, 0, kind, place], [1, 1, kind, place], [1, 0, kind, place]], text)
 
     def test_feed_and_end(self):
         for text, kind, place in FAULTS:
@@ -74,6 +80,8 @@ class Faults(unittest.TestCase):
     def test_a_fault_leaves_nothing_for_the_next_call(self):
         self.assertEqual(ask(minify("<a b='c"), minify("x"), saved("<"), minify("y")),
                          [fault(7, 7), wrote("x"), fault(7, 1), wrote("y")])
+        self.assertEqual(ask(laid(0, "<a b='c"), laid(0, "x"), tokens("<"), tokens("y"), same("<", "z"), same("", "")),
+                         [fault(7, 7), wrote("x"), fault(7, 1), [0, 1, 0, 1, 121], [1, 0, 7, 1], [0, 1]])
 
 
 if __name__ == "__main__":

@@ -4,7 +4,7 @@ import unittest
 
 from shortmark.reader import Reader
 from shortmark.reading import read_signs
-from tests.helpers import ask, end, fault, feed, minify, saved, signs, wrote
+from tests.helpers import ask, end, fault, feed, laid, minify, same, saved, signs, tokens, wrote
 
 ALL = set(range(256))
 BLANK = {9, 10, 13, 32}
@@ -93,8 +93,10 @@ class Modes(unittest.TestCase):
                 self.assertEqual((reader.mode, reader.count), (mode, len(text) + 1), (text, byte))
         for byte in ALL - taken:
             call = signs(text) + [byte]
-            expected = [fault(kind, len(text))] * 3
-            self.assertEqual(ask(minify(call), saved(call), feed(call)), expected, (text, byte))
+            expected = [fault(kind, len(text))] * 5
+            self.assertEqual(ask(minify(call), saved(call), laid(9, call), tokens(call), feed(call)), expected,
+                             (text, byte))
+            self.assertEqual(ask(same("", call)), [[1, 1, kind, len(text)]], (text, byte))
 
     def test_the_end(self):
         for mode, beginnings, moves, kind in MODES:
@@ -104,7 +106,7 @@ class Modes(unittest.TestCase):
                     self.assertEqual(ask(feed(text), end())[1][0], 0, text)
                 else:
                     late = fault(7, len(text))
-                    self.assertEqual(ask(minify(text), saved(text)), [late, late], text)
+                    self.assertEqual(ask(minify(text), saved(text), laid(9, text), tokens(text)), [late] * 4, text)
                     self.assertEqual(ask(feed(text), end())[1], late, text)
 
     def test_a_gap_after_a_name_is_a_fault_in_a_close_tag(self):
@@ -112,6 +114,7 @@ class Modes(unittest.TestCase):
 
     def test_an_empty_text(self):
         self.assertEqual(ask(minify(""), saved(""), feed(""), end()), [wrote(""), [0, 0, 0, 0], wrote(""), wrote("")])
+        self.assertEqual(ask(laid(0, ""), same("", ""), tokens("")), [wrote(""), [0, 1], [0, 0]])
 
 
 if __name__ == "__main__":

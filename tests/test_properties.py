@@ -3,8 +3,8 @@
 import random
 import unittest
 
-from tests.helpers import ask, end, fault, feed, minify, saved, signs
-from tests.plain import plainly_minified
+from tests.helpers import ask, counted, end, fault, feed, laid, minify, same, saved, signs, tokens, wrote
+from tests.plain import normal_tokens_of, plainly_laid, plainly_minified
 
 SCRAPS = [
     "<a>", "</a>", "<b>", "</b>", "<b/>", "<a", ">", "/>", "/", " ", "\n", " c", " d=", "='", "'", '"', '="', "=", "e",
@@ -45,6 +45,15 @@ def fine_text(source):
     return "".join(fine_token(source) for step in range(source.randrange(8)))
 
 
+def told(token):
+    """The numbers of a token of the second way."""
+    kind, inner = token[:2]
+    if kind != 1:
+        return [kind] + counted(inner)
+    pairs = [number for key, value in token[2] for number in counted(key) + counted(value)]
+    return [1, int(token[3])] + counted(inner) + [len(token[2])] + pairs
+
+
 def many_texts():
     source = random.Random(20)
     texts = []
@@ -82,6 +91,42 @@ class Properties(unittest.TestCase):
                 self.assertEqual(answer[0], 1, text)
             else:
                 self.assertEqual(answer, [0, len(other)] + signs(other), text)
+
+    def test_laid_out_as_by_patterns(self):
+        for text in self.texts:
+            for width in (0, 5, 9, 12, 20, 1000):
+                answer = ask(laid(width, text))[0]
+                other = plainly_laid(text, width)
+                if other is None:
+                    self.assertEqual(answer, ask(minify(text))[0], text)
+                else:
+                    self.assertEqual(answer, wrote(other), (text, width))
+
+    def test_tokens_as_by_patterns(self):
+        for text in self.texts:
+            answer = ask(tokens(text))[0]
+            other = normal_tokens_of(text)
+            if other is None:
+                self.assertEqual(answer, ask(minify(text))[0], text)
+            else:
+                self.assertEqual(answer, [0, len(other)] + [number for token in other for number in told(token)], text)
+
+    def test_other_writings_are_the_same(self):
+        for text, written in self.fine_texts():
+            spread = ask(laid(6, text))[0][2:]
+            self.assertEqual(ask(same(text, written), same(spread, text), same(written, spread)), [[0, 1]] * 3, text)
+            self.assertEqual(ask(laid(6, spread)), [wrote(spread)], text)
+            self.assertEqual(ask(minify(spread)), [wrote(written)], text)
+
+    def test_same_is_told_by_tokens(self):
+        fine = [text for text, written in self.fine_texts()]
+        alike = 0
+        for first, second in zip(fine, fine[1:] + fine[:1]):
+            wanted = int(normal_tokens_of(first) == normal_tokens_of(second))
+            alike += wanted
+            self.assertEqual(ask(same(first, second)), [[0, wanted]], (first, second))
+        self.assertGreater(alike, 100)
+        self.assertGreater(len(fine) - alike, 100)
 
     def test_minified_again_is_the_same(self):
         for text, written in self.fine_texts():

@@ -3,7 +3,10 @@
 import unittest
 
 from shortmark.desk import answers
-from tests.helpers import ask, begin, end, fault, feed, minified, minify, saved, signs, wrote
+from tests.helpers import (
+    ask, begin, counted, end, fault, feed, laid, minified, minify, same, saved, signs, split, tokens, value,
+    wrote,
+)
 
 TEXT = ("x &#38; y<a  b='c d' e=\"\" f='g'></a><i j='/'/><b><b></b></b><!-- a--b---><calc>1<2<<&</calc>"
         "<verb></verb><p k=&#97;&lt; l='&quot;' m=\"'\"><q/></p>&#x7a;<s></s><t>")
@@ -103,30 +106,68 @@ class Begin(unittest.TestCase):
 class OtherCalls(unittest.TestCase):
 
     def test_leave_the_text_as_it_was(self):
-        others = [minify("<b></b>"), saved("x<"), minify("<c"), minify([256]), saved([-1]), saved("<d></d>")]
+        others = [minify("<b></b>"), saved("x<"), minify("<c"), minify([256]), saved([-1]), saved("<d></d>"),
+                  laid(0, "x<b c=d>"), laid(9, "<e"), laid(-1, ""), same("<b></b>", "<b/>"), same("<", "x"),
+                  same("x", [256]), value(1, "/"), value(0, "<b>"), value(2, ""), tokens("</b><b>"), tokens("</b"),
+                  tokens([-1])]
+        step = len(others) + 1
+        alone = ask(*others)
         for place in range(0, len(TEXT) + 1, 3):
             found = ask(feed(TEXT[:place]), *others, feed(TEXT[place:]), *others, end(), *others)
-            written = found[0][2:] + found[7][2:] + found[14][2:]
+            written = found[0][2:] + found[step][2:] + found[2 * step][2:]
             self.assertEqual(written, signs(minified(TEXT)), place)
-            self.assertEqual(found[1:7], found[8:14])
-            self.assertEqual(found[1:7], found[15:21])
+            for start in (1, 1 + step, 1 + 2 * step):
+                self.assertEqual(found[start:start + len(others)], alone)
+
+    def test_each_leaves_the_text_as_it_was(self):
+        for other in (laid(0, "</b>y"), same("</b>", "<b>"), value(1, "</b>"), tokens("</b>y"), minify("</b>"),
+                      saved("</b>")):
+            self.assertEqual(ask(feed("x<b>"), other, feed("</b>"), other, end())[::2],
+                             [wrote("x"), wrote("<b/>"), wrote("")])
+            self.assertEqual(ask(feed("a&l"), other, feed("t;"), other, end())[::2],
+                             [wrote(""), wrote(""), wrote("a&lt;")])
 
     def test_answer_whatever_the_text_is_like(self):
         self.assertEqual(ask(feed("<1"), minify("&#97;"), saved("&#97;"), end()),
                          [fault(1, 1), wrote("a"), [0, 4, 0, 0], [-4]])
         self.assertEqual(ask(end(), minify("&#97;"), end()), [wrote(""), wrote("a"), [-4]])
+        for over in (feed("<1"), end()):
+            self.assertEqual(ask(over, laid(0, "&#97;"), same("a", "&#97;"), value(1, "a"), tokens("a"), end())[1:],
+                             [wrote("a"), [0, 1], counted("a "), [0, 1, 0, 1, 97], [-4]])
 
 
 class Interface(unittest.TestCase):
 
     def test_the_list_is_not_changed(self):
-        calls = feed(TEXT) + minify(TEXT) + saved(TEXT) + feed([300]) + end() + end() + begin()
+        calls = (feed(TEXT) + minify(TEXT) + saved(TEXT) + feed([300]) + end() + end() + begin() + laid(0, TEXT)
+                 + laid(-1, TEXT) + same(TEXT, TEXT) + same("<", [300]) + value(1, TEXT) + value(7, "") + tokens(TEXT)
+                 + tokens("<1"))
         kept = list(calls)
         answers(calls)
         self.assertEqual(calls, kept)
 
+    def test_every_call_in_mixed_order(self):
+        found = answers(tokens("<b></b>") + feed("<b>") + value(1, "/") + same("a", "&#97;") + laid(0, "<a b=c>")
+                        + end() + saved("&#97;") + minify("<b></b>") + feed("x") + begin() + value(0, "")
+                        + feed("y") + tokens("<") + laid(9, "<a b=c>") + same("a", "<") + end() + laid(-1, "a"))
+        self.assertEqual(split(found), [
+            [0, 1, 1, 1, 1, 98, 0], wrote(""), counted("/ "), [0, 1], wrote('<a\nb="c">'),
+            wrote("<b>"), [0, 4, 0, 0], wrote("<b/>"), [-4], [0], counted('""'),
+            wrote(""), fault(7, 1), wrote('<a b="c">'), [1, 1, 7, 1], wrote("y"), [-5],
+        ])
+
+    def test_calls_in_many_orders(self):
+        # Calls that leave the text alone are answered the same wherever they stand.
+        calls = [minify("<b></b>"), saved("&#97;"), laid(3, "<a b>"), same("<b></b>", "<b/>"), value(1, "a"),
+                 tokens("<a b=c>d"), laid(-1, ""), same([256], ""), value(2, ""), tokens("<")]
+        alone = [ask(call)[0] for call in calls]
+        for shift in range(len(calls)):
+            for step in (1, 3, 7, 9):
+                order = [(shift + step * index) % len(calls) for index in range(len(calls))]
+                self.assertEqual(ask(*[calls[index] for index in order]), [alone[index] for index in order])
+
     def test_nothing_is_kept_from_one_time_to_the_next(self):
-        calls = feed("<b>") + minify(TEXT)
+        calls = feed("<b>") + minify(TEXT) + laid(9, TEXT) + same(TEXT, "x") + value(1, TEXT) + tokens(TEXT)
         first = answers(calls)
         self.assertEqual(answers(calls), first)
         self.assertEqual(ask(end()), [wrote("")])
@@ -139,7 +180,8 @@ class Interface(unittest.TestCase):
         self.assertEqual(answers(minify("ab")), [4, 0, 2, 97, 98])
 
     def test_whole_numbers_alone(self):
-        found = answers(feed(TEXT) + end() + end() + minify("<1") + saved(TEXT) + begin())
+        found = answers(feed(TEXT) + end() + end() + minify("<1") + saved(TEXT) + begin() + laid(9, TEXT)
+                        + same(TEXT, TEXT) + same(TEXT, "x") + value(1, TEXT) + tokens(TEXT) + same("<", "x"))
         self.assertIs(type(found), list)
         self.assertEqual({type(number) for number in found}, {int})
 
@@ -151,12 +193,18 @@ class Interface(unittest.TestCase):
             self.assertEqual([answer[0] for answer in found], [0] * 5)
             written = [sign for answer in found[2:] for sign in answer[2:]]
             self.assertEqual(written, found[0][2:] * 2)
+            self.assertEqual([answer[0] for answer in ask(laid(0, text), tokens(text), same(text, text))], [0] * 3)
 
     def test_a_tag_with_many_attributes(self):
         names = [x + y + z for x in "abcdefghijklm" for y in "abcdefghij" for z in "0123456789"]
         text = "<a " + " ".join(names) + ">"
         self.assertEqual(minified(text), text)
         self.assertEqual(ask(minify(text[:-1] + " aa0>")), [fault(3, len(text) - 1 + 4)])
+        in_full = "<a" + "".join(f' {name}=""' for name in names) + ">"
+        self.assertEqual(ask(laid(len(in_full), text)), [wrote(in_full)])
+        self.assertEqual(ask(laid(len(in_full) - 1, text)), [wrote(in_full.replace(" ", "\n"))])
+        self.assertEqual(ask(tokens(text))[0][:6], [0, 1, 1, 0, 1, 97])
+        self.assertEqual(ask(tokens(text))[0][6], len(names))
 
     def test_a_hundred_calls(self):
         self.assertEqual(ask(*[feed("a")] * 99, end()), [wrote("")] * 99 + [wrote("a" * 99)])
